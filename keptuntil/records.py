@@ -1,0 +1,31 @@
+"""What an office holds: its classes, its things, its matters, the last moment told."""
+
+
+class ThingClass:
+    def __init__(self, keep, early):
+        self.keep = keep
+        self.early = early
+
+
+class Thing:
+    def __init__(self, which, filed, due, needs):
+        self.which = which
+        self.filed = filed
+        self.due = due
+        self.needs = list(needs)
+        self.here = True
+
+
+class Matter:
+    def __init__(self):
+        self.things = {}
+        self.classes = {}
+        self.stands = True
+
+
+class Office:
+    def __init__(self):
+        self.moment = 0
+        self.classes = []
+        self.things = []
+        self.matters = []
