@@ -5,6 +5,7 @@ from keptuntil.acts import make_longer, make_matter, name_more, release_matter
 from keptuntil.keeping import let_go
 from keptuntil.records import Office
 from keptuntil.refusals import BELOW_LAST, WRONG
+from keptuntil.tellings import tell_next, tell_thing, tell_told, tell_went, tell_when, tell_why
 
 # 2^40: no call can tell this moment or a later one.
 MOMENT_LIMIT = 1099511627776
@@ -16,6 +17,12 @@ NEED = 3
 MATTER = 4
 MORE = 5
 RELEASE = 6
+TICK = 8
+THING = 9
+WHEN = 10
+NEXT = 11
+WHY = 12
+WENT = 13
 
 # By a call's number: how many whole numbers it has, then how many rows.
 SHAPES = (
@@ -27,6 +34,13 @@ SHAPES = (
     (2, 2),
     (2, 0),
     (2, 0),
+    (1, 0),
+    (1, 0),
+    (1, 0),
+    (0, 0),
+    (1, 0),
+    (1, 0),
+    (0, 0),
 )
 
 
@@ -42,30 +56,50 @@ def act(office, call, numbers, rows):
         return name_more(office, numbers[0], rows[0], rows[1])
     if call == RELEASE:
         return release_matter(office, numbers[0])
-    # Only ask is left: no other call with a moment has a shape.
+    # Only ask is left: a tick asks for nothing.
     return ask_thing(office, numbers[0])
 
 
 def act_at_moment(office, call, numbers, rows):
     moment = numbers[0]
     if moment >= MOMENT_LIMIT:
-        return WRONG
+        return WRONG, []
     if moment < office.moment:
-        return BELOW_LAST
+        return BELOW_LAST, []
     # A refusal behind this line still leaves the moment told.
     office.moment = moment
-    let_go(office)
+    went = let_go(office)
+    if call == TICK:
+        # It does nothing by which more could go, so there's no second letting go.
+        return len(went), went
     number = act(office, call, numbers[1:], rows)
     let_go(office)
-    return number
+    return number, []
+
+
+def tell(office, call, numbers):
+    if call == THING:
+        return tell_thing(office, numbers[0])
+    if call == WHEN:
+        return tell_when(office, numbers[0])
+    if call == NEXT:
+        return tell_next(office)
+    if call == WHY:
+        return tell_why(office, numbers[0])
+    if call == WENT:
+        return tell_went(office, numbers[0])
+    return tell_told(office)
 
 
 def answer_call(office, call, numbers, rows):
+    """The number that a call answers, and the list behind it."""
     if call == MAKE_CLASS:
-        return make_class(office, numbers[0], numbers[1])
+        return make_class(office, numbers[0], numbers[1]), []
     if call == LONGER:
-        return make_longer(office, numbers[0], numbers[1])
-    return act_at_moment(office, call, numbers, rows)
+        return make_longer(office, numbers[0], numbers[1]), []
+    if call <= TICK:
+        return act_at_moment(office, call, numbers, rows)
+    return tell(office, call, numbers)
 
 
 def written(number, others):
@@ -94,5 +128,6 @@ def answers(calls):
         numbers = calls[at + 1:behind]
         rows = read_rows(calls, behind, shape[1])
         at = behind + sum([1 + len(row) for row in rows])
-        given.extend(written(answer_call(office, call, numbers, rows), []))
+        answer = answer_call(office, call, numbers, rows)
+        given.extend(written(answer[0], answer[1]))
     return given

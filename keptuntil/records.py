@@ -1,4 +1,4 @@
-"""What an office holds: its classes, its things, its matters, the last moment told."""
+"""What an office holds: its classes, its things, its matters, what went, the last moment told."""
 
 
 class ThingClass:
@@ -14,6 +14,7 @@ class Thing:
         self.due = due
         self.needs = list(needs)
         self.here = True
+        self.gone_at = 0
 
 
 class Matter:
@@ -29,3 +30,5 @@ class Office:
         self.classes = []
         self.things = []
         self.matters = []
+        # The numbers of the things that went, in the order in which they did.
+        self.gone = []

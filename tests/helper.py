@@ -44,28 +44,77 @@ def ask(moment, thing):
     return [7, moment, thing]
 
 
+def tick(moment):
+    return [8, moment]
+
+
+def thing(x):
+    return [9, x]
+
+
+def when(x):
+    return [10, x]
+
+
+NEXT = [11]
+
+
+def why(x):
+    return [12, x]
+
+
+def went(i):
+    return [13, i]
+
+
+TOLD = [14]
+
+
 def joined(calls):
     return [number for call in calls for number in call]
 
 
-def told(*calls):
-    """The number that each call answers; each answer must have the form of a bare number."""
+def read(flat):
+    """The answers that are given back, each as its number and what is behind it; their form is checked."""
+    found, at = [], 0
+    while at < len(flat):
+        answer = flat[at + 1:at + 1 + flat[at]]
+        number, count_of_bytes, many, *others = answer
+        if len(answer) != flat[at] or count_of_bytes != 0 or many != len(others) or (number < 0 and others):
+            raise AssertionError(f"not the form of an answer: {flat[at]}, {answer}")
+        found.append([number, *others])
+        at += 1 + flat[at]
+    return found
+
+
+def given(*calls):
+    """What each call answers: its number, then the list behind it."""
     handed_in = joined(calls)
     if len(calls) > 400 or len(handed_in) > 16000:
         raise AssertionError(f"more than may be handed in: {len(calls)} calls, {len(handed_in)} numbers")
-    given = answers(handed_in)
-    if len(given) != 4 * len(calls):
-        raise AssertionError(f"{len(calls)} calls, {len(given)} numbers back: {given}")
-    for at in range(0, len(given), 4):
-        if given[at] != 3 or given[at + 2:at + 4] != [0, 0]:
-            raise AssertionError(f"not the form of a number: {given[at:at + 4]}")
-    return given[1::4]
+    found = read(answers(handed_in))
+    if len(found) != len(calls):
+        raise AssertionError(f"{len(calls)} calls, {len(found)} answers: {found}")
+    for call, answer in zip(calls, found):
+        if call[0] < 8 and len(answer) > 1:
+            raise AssertionError(f"{call} answers a number alone, not {answer}")
+    return found
+
+
+def answered(*calls):
+    """The number that each call answers."""
+    return [answer[0] for answer in given(*calls)]
 
 
 def last(*calls):
-    """What the last of these calls answers."""
-    return told(*calls)[-1]
+    """The number that the last of these calls answers."""
+    return answered(*calls)[-1]
 
 
 def last_ones(many, *calls):
-    return told(*calls)[-many:]
+    return answered(*calls)[-many:]
+
+
+def given_last(*calls):
+    """What the last of these calls answers, whole."""
+    return given(*calls)[-1]

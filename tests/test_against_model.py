@@ -3,8 +3,8 @@
 import random
 import unittest
 
-from helper import (KEEP_END, MOMENT_END, ask, file, longer, make_class, matter, more, need, release,
-                    told)
+from helper import (HIGHEST, KEEP_END, MOMENT_END, NEXT, TOLD, ask, file, given, longer, make_class, matter, more,
+                    need, release, thing, tick, went, when, why)
 
 
 def rises(row):
@@ -20,16 +20,24 @@ class Model:
         self.filed, self.due, self.of = {}, {}, {}
         self.here, self.needs = set(), set()
         self.names, self.standing = [], set()
+        self.gone = []
 
-    def kept(self):
-        held = {x for x in self.here for m in self.standing
+    def held(self):
+        return {x for x in self.here for m in self.standing
                 if ("thing", x) in self.names[m] or ("class", self.of[x]) in self.names[m]}
-        kept = held | {x for x in self.here if self.now < self.due[x]}
+
+    def kept(self, here, now):
+        kept = (self.held() & here) | {x for x in here if now < self.due[x]}
         while True:
-            wider = kept | {y for x, y in self.needs if x in kept and y in self.here}
+            wider = kept | {y for x, y in self.needs if x in kept and y in here}
             if wider == kept:
                 return kept
             kept = wider
+
+    def let_go(self):
+        kept = self.kept(self.here, self.now)
+        self.gone += [(x, self.now) for x in sorted(self.here - kept)]
+        self.here = kept
 
     def make_class(self, keep, early):
         if keep >= KEEP_END or early > 1:
@@ -56,9 +64,9 @@ class Model:
         if moment < self.now:
             return -5
         self.now = moment
-        self.here &= self.kept()
+        self.let_go()
         answer = act(*rest)
-        self.here &= self.kept()
+        self.let_go()
         return answer
 
     def file(self, which, needs):
@@ -134,13 +142,60 @@ class Model:
         self.due[x] = min(self.due[x], self.now)
         return 0
 
+    def tick(self, moment):
+        before = len(self.gone)
+        refusal = self.at(moment, lambda: 0)
+        told = [x for x, at in self.gone[before:]]
+        return [refusal] if refusal < 0 else [len(told), *told]
+
+    def thing(self, x):
+        if x not in self.filed:
+            return [-4]
+        return [0 if x in self.here else 1, self.of[x], self.filed[x], self.due[x], dict(self.gone).get(x, 0),
+                *sorted(b for a, b in self.needs if a == x)]
+
+    def goings(self):
+        """Ticks and nothing else, on a copy; nothing can go but at some thing's due."""
+        here, goings = set(self.here), {}
+        for now in sorted({self.now} | {self.due[x] for x in here}):
+            kept = self.kept(here, now)
+            goings.update({x: now for x in here - kept})
+            here = kept
+        return goings
+
+    def when(self, x):
+        if x not in self.here:
+            return [-4]
+        goings = self.goings()
+        return [0, goings[x]] if x in goings else [1]
+
+    def next(self):
+        first = sorted((moment, x) for x, moment in self.goings().items())[:1]
+        return [0, first[0][1], first[0][0]] if first else [1]
+
+    def why(self, x):
+        if x not in self.here:
+            return [-4]
+        if self.now < self.due[x]:
+            return [1]
+        if x in self.held():
+            return [2]
+        return [3, *sorted(a for a, b in self.needs if b == x and a in self.here)]
+
+    def went(self, i):
+        return [0, *self.gone[i]] if i < len(self.gone) else [-4]
+
+    def told(self):
+        return [0, self.now, len(self.classes), len(self.filed), len(self.here), len(self.standing), len(self.gone)]
+
 
 class Line:
     """Calls that are made up one by one, each with what the model answers."""
 
-    def __init__(self, seed):
+    def __init__(self, seed, start=0, keeps=range(30)):
         self.chance = random.Random(seed)
         self.model = Model()
+        self.start, self.keeps = start, keeps
         self.calls, self.expected = [], []
 
     def number(self, many):
@@ -151,7 +206,7 @@ class Line:
         return self.chance.choice(around) if around and self.chance.random() < 0.8 else self.thing()
 
     def thing(self):
-        return self.number(len(self.model.filed))
+        return HIGHEST if self.chance.random() < 0.01 else self.number(len(self.model.filed))
 
     def row(self, of, many):
         row = [of() for k in range(self.chance.randrange(many))]
@@ -159,71 +214,109 @@ class Line:
 
     def moment(self):
         if self.chance.random() < 0.04:
-            return self.chance.choice([MOMENT_END, max(self.model.now - 1, 0)])
-        return self.model.now + self.chance.choice([0, 0, 0, 1, 1, 2, 5])
+            return self.chance.choice([MOMENT_END, HIGHEST, max(self.model.now - 1, 0)])
+        return max(self.model.now, self.start) + self.chance.choice([0, 0, 0, 1, 1, 2, 5])
 
     def which(self):
         return self.number(len(self.model.classes))
+
+    def matter(self):
+        return self.number(len(self.model.names))
 
     def lists(self):
         return self.row(self.here, 4), self.row(self.which, 2)
 
     def add(self, call, answer):
         self.calls.append(call)
-        self.expected.append(answer)
+        self.expected.append([answer] if isinstance(answer, int) else answer)
+
+    def begin(self):
+        for early in (0, 1, 1):
+            keep = self.chance.choice(self.keeps)
+            self.add(make_class(keep, early), self.model.make_class(keep, early))
+
+    def add_class(self):
+        rest = (self.chance.choice(self.keeps), self.chance.choice([0, 1, 1, 2]))
+        self.add(make_class(*rest), self.model.make_class(*rest))
+
+    def add_longer(self):
+        rest = (self.which(), self.chance.choice(self.keeps) + self.chance.randrange(15))
+        self.add(longer(*rest), self.model.longer(*rest))
+
+    def add_act(self, call, act, *rest):
+        now = self.moment()
+        self.add(call(now, *rest), self.model.at(now, act, *rest))
+
+    def add_telling(self):
+        """One of the calls that tell, the tick among them."""
+        x, i, model = self.here(), self.number(len(self.model.gone)), self.model
+        kind = self.chance.choices(range(7), [6, 2, 4, 3, 4, 1, 1])[0]
+        if kind == 0:
+            now = self.moment()
+            now = min(now + self.chance.choice([0, 0, 2, 6, 15, 30]), max(now, MOMENT_END - 1))
+            self.add(tick(now), model.tick(now))
+        else:
+            self.add(*[(thing(x), model.thing(x)), (when(x), model.when(x)), (NEXT, model.next()),
+                       (why(x), model.why(x)), (went(i), model.went(i)), (TOLD, model.told())][kind - 1])
 
     def step(self):
-        model, now = self.model, self.moment()
-        kind = self.chance.choices(range(8), [1, 2, 9, 6, 2, 2, 3, 4])[0]
+        model = self.model
+        kind = self.chance.choices(range(9), [1, 2, 9, 6, 2, 2, 3, 4, 8])[0]
         if kind == 0:
-            rest = (self.chance.randrange(30), self.chance.choice([0, 1, 1, 2]))
-            self.add(make_class(*rest), model.make_class(*rest))
+            self.add_class()
         elif kind == 1:
-            rest = (self.which(), self.chance.randrange(45))
-            self.add(longer(*rest), model.longer(*rest))
+            self.add_longer()
         elif kind == 2:
-            rest = (self.which(), self.row(self.here, 4))
-            self.add(file(now, *rest), model.at(now, model.file, *rest))
+            self.add_act(file, model.file, self.which(), self.row(self.here, 4))
         elif kind == 3:
-            rest = (self.here(), self.here())
-            self.add(need(now, *rest), model.at(now, model.need, *rest))
+            self.add_act(need, model.need, self.here(), self.here())
         elif kind == 4:
-            rest = self.lists()
-            self.add(matter(now, *rest), model.at(now, model.matter, *rest))
+            self.add_act(matter, model.matter, *self.lists())
         elif kind == 5:
-            rest = (self.number(len(model.names)), *self.lists())
-            self.add(more(now, *rest), model.at(now, model.more, *rest))
+            self.add_act(more, model.more, self.matter(), *self.lists())
         elif kind == 6:
-            rest = (self.number(len(model.names)),)
-            self.add(release(now, *rest), model.at(now, model.release, *rest))
+            self.add_act(release, model.release, self.matter())
+        elif kind == 7:
+            self.add_act(ask, model.ask, self.here())
         else:
-            rest = (self.here(),)
-            self.add(ask(now, *rest), model.at(now, model.ask, *rest))
+            self.add_telling()
 
-    def look_at_each_thing(self):
-        """A matter is -4 for a thing that isn't here, else not, whether there are 32 or fewer."""
-        now = self.model.now
-        for x in sorted(self.model.filed):
-            self.add(matter(now, [x]), self.model.at(now, self.model.matter, [x], []))
+    def ends(self):
+        """All that can be told behind the line, in pieces that may be handed in behind it."""
+        model, every = self.model, range(len(self.model.filed) + 1)
+        goings = model.goings()
+        yield [(thing(x), model.thing(x)) for x in every] + [(TOLD, model.told())]
+        yield [(went(i), model.went(i)) for i in range(len(model.gone) + 1)] + [(NEXT, model.next())]
+        yield [(why(x), model.why(x)) for x in every]
+        yield [(when(x), [0, goings[x]] if x in goings else [1] if x in model.here else [-4]) for x in every]
 
 
 class AgainstTheModel(unittest.TestCase):
-    def check(self, seed, steps):
-        line = Line(seed)
-        first = (line.chance.randrange(20), 1)
-        line.add(make_class(*first), line.model.make_class(*first))
+    def check(self, seed, steps, **kinds):
+        line = Line(seed, **kinds)
+        line.begin()
         for k in range(steps):
             line.step()
-        line.look_at_each_thing()
-        self.assertEqual(told(*line.calls), line.expected, f"seed {seed}")
+        for end in line.ends():
+            calls, expected = line.calls + [call for call, told in end], line.expected + [told for call, told in end]
+            self.assertEqual(given(*calls), expected, f"seed {seed}")
 
     def test_short_lines(self):
         for seed in range(400):
             self.check(seed, 25)
 
     def test_long_lines(self):
-        for seed in range(1000, 1060):
+        for seed in range(1000, 1040):
             self.check(seed, 280)
+
+    def test_lines_of_things_that_stay(self):
+        # Many things at once, so that chains, circles and dues meet more often.
+        for seed in range(2000, 2040):
+            self.check(seed, 150, keeps=range(20, 120))
+
+    def test_lines_at_the_highest_moments(self):
+        for seed in range(3000, 3100):
+            self.check(seed, 40, start=MOMENT_END - 40, keeps=[3, 20, 40, KEEP_END - 20, KEEP_END - 1])
 
 
 if __name__ == "__main__":

@@ -1,17 +1,17 @@
 import unittest
 
-from helper import GONE, HERE, HIGHEST, ask, file, last, last_ones, make_class, need, told
+from helper import GONE, HERE, HIGHEST, answered, ask, file, last, last_ones, make_class, need
 
 
 class Filing(unittest.TestCase):
     def test_things_are_numbered_from_0(self):
-        self.assertEqual(told(make_class(5), file(0), file(0), file(3, 0, [0, 1])), [0, 0, 1, 2])
+        self.assertEqual(answered(make_class(5), file(0), file(0), file(3, 0, [0, 1])), [0, 0, 1, 2])
 
     def test_a_gone_thing_keeps_its_number(self):
-        self.assertEqual(told(make_class(0), file(0), file(0), file(0)), [0, 0, 1, 2])
+        self.assertEqual(answered(make_class(0), file(0), file(0), file(0)), [0, 0, 1, 2])
 
     def test_there_must_be_such_a_class(self):
-        self.assertEqual(told(file(0)), [-4])
+        self.assertEqual(answered(file(0)), [-4])
         self.assertEqual(last_ones(2, make_class(5), make_class(5), file(0, 1), file(0, 2)), [0, -4])
         self.assertEqual(last(make_class(5), file(0, HIGHEST)), -4)
 
@@ -41,19 +41,19 @@ class Filing(unittest.TestCase):
         self.assertEqual(last(*two, file(5, 0, [1])), 2)
 
     def test_it_can_t_need_itself_as_it_is_filed(self):
-        self.assertEqual(told(make_class(5), file(0, 0, [0])), [0, -4])
+        self.assertEqual(answered(make_class(5), file(0, 0, [0])), [0, -4])
 
     def test_there_are_at_most_256(self):
         full = [make_class(5)] + [file(0)] * 256
-        self.assertEqual(told(*full, file(0), file(0)), [0, *range(256), -3, -3])
+        self.assertEqual(answered(*full, file(0), file(0)), [0, *range(256), -3, -3])
 
     def test_gone_ones_count_too(self):
         full = [make_class(0)] + [file(0)] * 256
-        self.assertEqual(told(*full, file(9)), [0, *range(256), -3])
+        self.assertEqual(answered(*full, file(9)), [0, *range(256), -3])
 
     def test_a_refused_filing_takes_no_number(self):
         refused = [file(0, 1), file(0, 0, [1, 0]), file(0, 0, [7]), file(0, 0, range(17))]
-        self.assertEqual(told(make_class(5), *refused, file(0)), [0, -4, -1, -4, -2, 0])
+        self.assertEqual(answered(make_class(5), *refused, file(0)), [0, -4, -1, -4, -2, 0])
 
 
 class FilingInOrder(unittest.TestCase):

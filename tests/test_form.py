@@ -11,10 +11,12 @@ FILES = sorted(path for path in PACKAGE.rglob("*") if path.is_file() and "__pyca
 STATEMENTS = (ast.Assign, ast.If, ast.While, ast.For, ast.Return, ast.Break, ast.Continue, ast.Pass, ast.Raise,
               ast.Expr, ast.FunctionDef, ast.ClassDef, ast.ImportFrom)
 EXPRESSIONS = (ast.Constant, ast.Name, ast.Attribute, ast.Subscript, ast.Slice, ast.Call, ast.BinOp, ast.UnaryOp,
-               ast.BoolOp, ast.Compare, ast.IfExp, ast.List, ast.Tuple, ast.Dict, ast.ListComp)
+               ast.BoolOp, ast.Compare, ast.IfExp, ast.List, ast.Tuple, ast.Dict, ast.ListComp,
+               ast.Lambda)
 BUILT_IN = ("len", "range", "min", "max", "sum", "abs", "sorted", "list", "tuple", "dict", "enumerate", "zip",
             "reversed", "int", "str", "bool", "any", "all", "divmod")
 METHODS = ("append", "extend", "get", "pop", "copy", "count", "index", "insert", "items", "keys", "values")
+KEYWORDS = {"sorted": {"key", "reverse"}, "min": {"key", "default"}, "max": {"key", "default"}}
 WORDS = re.compile(r"\b(type|typing|typing_extensions|enum|Enum|IntEnum|StrEnum|Flag|IntFlag|Generic|Protocol|ABC|"
                    r"ABCMeta|namedtuple|NamedTuple|TypedDict|TYPE_CHECKING|abstractmethod)\b"
                    r"|dataclass|overload|contextmanager")
@@ -75,7 +77,10 @@ class Code(unittest.TestCase):
                 self.assertIn(type(node.value), (int, str, bool, type(None)), place)
             if isinstance(node, ast.BinOp):
                 self.assertNotIsInstance(node.op, (ast.Div, ast.MatMult, ast.Pow), place)
-            if isinstance(node, ast.Compare):
+            if isinstance(node, ast.Compare) and isinstance(node.ops[0], (ast.Is, ast.IsNot)):
+                self.assertIn(ast.unparse(node.comparators[0]), ("None", "True", "False"), place)
+                self.assertEqual(len(node.ops), 1, place)
+            elif isinstance(node, ast.Compare):
                 self.assertFalse([op for op in node.ops if isinstance(op, (ast.Is, ast.IsNot))], place)
 
     def test_one_target_and_no_else_behind_a_loop(self):
@@ -152,7 +157,12 @@ class Names(unittest.TestCase):
             if isinstance(node, ast.Call) and isinstance(node.func, ast.Attribute):
                 self.assertIn(node.func.attr, METHODS, place)
             if isinstance(node, ast.Call):
-                self.assertEqual(node.keywords, [], place)
+                keywords = {keyword.arg: keyword.value for keyword in node.keywords}
+                self.assertLessEqual(set(keywords), KEYWORDS.get(ast.unparse(node.func), set()), place)
+                if "key" in keywords:
+                    self.assertIsInstance(keywords["key"], ast.Lambda, place)
+                if "reverse" in keywords:
+                    self.assertIn(ast.unparse(keywords["reverse"]), ("True", "False"), place)
 
 
 if __name__ == "__main__":

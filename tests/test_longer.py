@@ -1,7 +1,6 @@
 import unittest
 
-from helper import (GONE, HERE, KEEP_END, ask, file, last, last_ones, longer, make_class,
-                    matter, need, release)
+from helper import GONE, HERE, KEEP_END, ask, file, last, last_ones, longer, make_class, matter, need, release
 
 
 class Longer(unittest.TestCase):

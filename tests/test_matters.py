@@ -1,7 +1,6 @@
 import unittest
 
-from helper import (GONE, HERE, HIGHEST, ask, file, last, last_ones, make_class, matter, more,
-                    need, release, told)
+from helper import GONE, HERE, HIGHEST, answered, ask, file, last, last_ones, make_class, matter, more, need, release
 
 
 class Making(unittest.TestCase):
@@ -13,7 +12,7 @@ class Making(unittest.TestCase):
         self.assertEqual(last_ones(3, *calls), [0, 1, 2])
 
     def test_a_matter_may_name_nothing(self):
-        self.assertEqual(told(matter(0)), [0])
+        self.assertEqual(answered(matter(0)), [0])
 
     def test_it_holds_what_it_names(self):
         self.assertEqual(last_ones(2, *self.two, matter(0, [1]), ask(5, 0), ask(5, 1)), [GONE, HERE])
@@ -47,7 +46,7 @@ class Making(unittest.TestCase):
         self.assertEqual(last(*full, matter(0, [], range(300))), -2)
 
     def test_there_are_at_most_32(self):
-        self.assertEqual(told(*[matter(0)] * 34), [*range(32), -3, -3])
+        self.assertEqual(answered(*[matter(0)] * 34), [*range(32), -3, -3])
 
     def test_released_ones_count_too(self):
         self.assertEqual(last(*[matter(0)] * 32, release(0, 0), matter(0)), -3)
@@ -164,11 +163,11 @@ class MoreInOrder(unittest.TestCase):
 
 class Releasing(unittest.TestCase):
     def test_a_matter_is_released_once(self):
-        self.assertEqual(told(matter(0), release(0, 0), release(0, 0), release(9, 0)), [0, 0, -3, -3])
+        self.assertEqual(answered(matter(0), release(0, 0), release(0, 0), release(9, 0)), [0, 0, -3, -3])
 
     def test_there_must_be_such_a_matter(self):
-        self.assertEqual(told(release(0, 0)), [-4])
-        self.assertEqual(told(matter(0), release(0, 1), release(0, HIGHEST)), [0, -4, -4])
+        self.assertEqual(answered(release(0, 0)), [-4])
+        self.assertEqual(answered(matter(0), release(0, 1), release(0, HIGHEST)), [0, -4, -4])
 
     def test_other_matters_stand(self):
         calls = [make_class(5), file(0), matter(0, [0]), matter(0, [], [0]), release(9, 0)]
@@ -186,7 +185,7 @@ class Releasing(unittest.TestCase):
 
 class Asking(unittest.TestCase):
     def test_there_must_be_such_a_thing(self):
-        self.assertEqual(told(ask(0, 0)), [-4])
+        self.assertEqual(answered(ask(0, 0)), [-4])
         self.assertEqual(last(make_class(5, 1), file(0), ask(0, 1)), -4)
         self.assertEqual(last(make_class(5, 1), file(0), ask(0, HIGHEST)), -4)
 

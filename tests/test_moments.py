@@ -1,13 +1,13 @@
 import unittest
 
-from helper import (GONE, HERE, HIGHEST, KEEP_END, MOMENT_END, ask, file, last, last_ones, longer,
-                    make_class, matter, more, need, release)
+from helper import (GONE, HERE, HIGHEST, KEEP_END, MOMENT_END, NEXT, TOLD, ask, file, last, last_ones, longer,
+                    make_class, matter, more, need, release, thing, tick, went, when, why)
 
 
 def calls_at(moment):
     """Each call with a moment, as it is done behind START."""
     return [file(moment), need(moment, 0, 0), matter(moment, [0]), more(moment, 0, [0]),
-            release(moment, 0), ask(moment, 0)]
+            release(moment, 0), ask(moment, 0), tick(moment)]
 
 
 def refused_at(moment):
@@ -60,7 +60,8 @@ class Moments(unittest.TestCase):
         self.assertEqual(last(*calls, matter(MOMENT_END - 1)), 1)
 
     def test_calls_without_a_moment_tell_none(self):
-        calls = [make_class(9), longer(0, 500), make_class(KEEP_END), longer(0, 1)]
+        calls = [make_class(9), longer(0, 500), make_class(KEEP_END), longer(0, 1), thing(7), when(7), NEXT, why(7),
+                 went(7), TOLD]
         self.assertEqual(last(*calls, matter(0)), 0)
 
 

@@ -1,7 +1,7 @@
 import unittest
 
-from helper import (GONE, HERE, KEEP_END, ask, file, last, last_ones, longer, make_class, matter,
-                    more, need, release, told)
+from helper import (GONE, HERE, KEEP_END, answered, ask, file, last, last_ones, longer, make_class, matter, more, need,
+                    release, tick)
 
 
 class ByDue(unittest.TestCase):
@@ -22,20 +22,20 @@ class ByDue(unittest.TestCase):
         self.assertEqual(last_ones(3, *calls, *probe), [GONE, HERE, GONE])
 
     def test_any_call_with_a_moment_lets_go(self):
-        for call in (file(10), need(10, 1, 1), matter(10), more(10, 0), release(10, 0), ask(10, 1)):
+        for call in (file(10), need(10, 1, 1), matter(10), more(10, 0), release(10, 0), ask(10, 1), tick(10)):
             calls = [make_class(10), make_class(50), file(0, 0), file(0, 1), matter(0), call, longer(0, 100)]
             self.assertEqual(last(*calls, ask(10, 0)), GONE)
 
     def test_a_gone_thing_is_never_here_again(self):
         calls = [make_class(10), file(0), ask(10, 0), longer(0, 100), matter(10, [], [0])]
-        self.assertEqual(told(*calls, ask(10, 0), ask(11, 0)), [0, 0, GONE, 0, 0, GONE, GONE])
+        self.assertEqual(answered(*calls, ask(10, 0), ask(11, 0)), [0, 0, GONE, 0, 0, GONE, GONE])
         self.assertEqual(last(*calls, need(10, 0, 0)), -4)
         self.assertEqual(last(*calls, file(10, 0, [0])), -4)
         self.assertEqual(last(*calls, matter(10, [0])), -4)
         self.assertEqual(last(*calls, more(10, 0, [0])), -4)
 
     def test_it_goes_behind_its_own_filing_if_its_class_keeps_nothing(self):
-        self.assertEqual(told(make_class(0), file(7), ask(7, 0)), [0, 0, GONE])
+        self.assertEqual(answered(make_class(0), file(7), ask(7, 0)), [0, 0, GONE])
         self.assertEqual(last(make_class(0), file(7), longer(0, 100), ask(7, 0)), GONE)
 
     def test_what_is_due_goes_ahead_of_what_is_asked(self):
